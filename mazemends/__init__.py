@@ -1,0 +1,1 @@
+"""Mends of gardens: the calls stand in mazemends.garden."""

@@ -1,0 +1,148 @@
+"""Gardens of hedges, read from their drawings, and the fewest changes that make them perfect."""
+
+MOST_BYTES = 1024
+MOST_SQUARES = 10
+
+TAKEN = 0
+TOO_LONG = -2
+AT_FAULT = -6
+
+LINE_END = 10
+BLANK = 32
+CORNER = 43
+LEVEL_HEDGE = 45
+UPRIGHT_HEDGE = 124
+
+
+def line_bytes(wide):
+    """Count the bytes of a drawing's line, its end among them."""
+    return 2 * wide + 2
+
+
+def wide_of(drawing):
+    """Tell how many squares wide the drawing is, if its first line is one of a drawing."""
+    signs = 0
+    while signs < len(drawing) and drawing[signs] != LINE_END:
+        signs = signs + 1
+    return (signs - 1) // 2
+
+
+def high_of(drawing, wide):
+    """Tell how many squares high the drawing is, if all its lines are as long as the first."""
+    return (len(drawing) // line_bytes(wide) - 1) // 2
+
+
+def hedge_or_passage(hedge, at_border):
+    """Give the signs that may stand between two corners: a border has no passages."""
+    if at_border:
+        return (hedge,)
+    return (hedge, BLANK)
+
+
+def signs_allowed(place, wide, high):
+    """Give the bytes that may stand at a place of a drawing that is so wide and so high."""
+    row = place // line_bytes(wide)
+    column = place % line_bytes(wide)
+    if column == 2 * wide + 1:
+        return (LINE_END,)
+    if row % 2 == 0 and column % 2 == 0:
+        return (CORNER,)
+    if row % 2 == 1 and column % 2 == 1:
+        return (BLANK,)
+    if row % 2 == 0:
+        return hedge_or_passage(LEVEL_HEDGE, row == 0 or row == 2 * high)
+    return hedge_or_passage(UPRIGHT_HEDGE, column == 0 or column == 2 * wide)
+
+
+def is_drawing(drawing):
+    """Tell whether the bytes are the drawing of a garden, whole and with nothing behind it."""
+    wide = wide_of(drawing)
+    # Asked ahead of the height: without a first line there is no line to count by.
+    if wide < 1 or wide > MOST_SQUARES:
+        return False
+    high = high_of(drawing, wide)
+    if high < 1 or high > MOST_SQUARES:
+        return False
+    if len(drawing) != (2 * high + 1) * line_bytes(wide):
+        return False
+    for place in range(len(drawing)):
+        if drawing[place] not in signs_allowed(place, wide, high):
+            return False
+    return True
+
+
+def refusal_of(drawing):
+    """Give the refusal that a drawing by itself calls for, or TAKEN."""
+    if len(drawing) > MOST_BYTES:
+        return TOO_LONG
+    if not is_drawing(drawing):
+        return AT_FAULT
+    return TAKEN
+
+
+def inner_sides(wide, high):
+    """Give the two squares beside each inner side, in the order of the sides' numbers."""
+    sides = []
+    for y in range(high):
+        for x in range(wide - 1):
+            square = y * wide + x
+            sides.append((square, square + 1))
+    for square in range(wide * (high - 1)):
+        sides.append((square, square + wide))
+    return sides
+
+
+def place_of_square(square, wide):
+    """Tell where in a drawing the blank of a square stands."""
+    row = 2 * (square // wide) + 1
+    column = 2 * (square % wide) + 1
+    return row * line_bytes(wide) + column
+
+
+def place_of_side(side, wide):
+    """Tell where in a drawing the sign of an inner side stands: midway between its squares."""
+    return (place_of_square(side[0], wide) + place_of_square(side[1], wide)) // 2
+
+
+def has_hedge(drawing, wide, side):
+    """Tell whether a hedge stands at an inner side."""
+    return drawing[place_of_side(side, wide)] != BLANK
+
+
+def are_one_room(rooms, side):
+    """Tell whether the two squares of an inner side are of one room."""
+    return rooms[side[0]] == rooms[side[1]]
+
+
+def rooms_joined(rooms, side):
+    """Give the rooms as they are once the inner side is a passage."""
+    kept = rooms[side[0]]
+    gone = rooms[side[1]]
+    return [kept if room == gone else room for room in rooms]
+
+
+def rooms_of(drawing, wide, high):
+    """Give for each square the room it is of; squares of one room have the same number."""
+    rooms = list(range(wide * high))
+    for side in inner_sides(wide, high):
+        if not has_hedge(drawing, wide, side):
+            rooms = rooms_joined(rooms, side)
+    return rooms
+
+
+def to_open(garden):
+    """Answer the inner sides whose hedges are to be opened, rising, or a refusal."""
+    refusal = refusal_of(garden)
+    if refusal != TAKEN:
+        return [refusal]
+    wide = wide_of(garden)
+    high = high_of(garden, wide)
+    rooms = rooms_of(garden, wide, high)
+    sides = inner_sides(wide, high)
+    answer = [TAKEN]
+    for number in range(len(sides)):
+        side = sides[number]
+        if has_hedge(garden, wide, side) and not are_one_room(rooms, side):
+            answer.append(number)
+            rooms = rooms_joined(rooms, side)
+    return answer
