@@ -130,19 +130,50 @@ def rooms_of(drawing, wide, high):
     return rooms
 
 
+def sides_to_open(drawing, wide, high):
+    """Give the numbers of the inner sides whose hedges are to be opened, rising."""
+    rooms = rooms_of(drawing, wide, high)
+    sides = inner_sides(wide, high)
+    numbers = []
+    for number in range(len(sides)):
+        side = sides[number]
+        if has_hedge(drawing, wide, side) and not are_one_room(rooms, side):
+            numbers.append(number)
+            rooms = rooms_joined(rooms, side)
+    return numbers
+
+
+def sides_to_plant(drawing, wide, high):
+    """Give the numbers of the inner sides whose passages are to be planted, rising."""
+    # A passage that is not planted is on no ring, so of those ahead of a passage none helps to join
+    # its squares: they are of one room without it just if the passages behind it make them so.
+    rooms = list(range(wide * high))
+    sides = inner_sides(wide, high)
+    numbers = []
+    for number in range(len(sides) - 1, -1, -1):
+        side = sides[number]
+        if has_hedge(drawing, wide, side):
+            continue
+        if are_one_room(rooms, side):
+            numbers.append(number)
+        else:
+            rooms = rooms_joined(rooms, side)
+    return list(reversed(numbers))
+
+
 def to_open(garden):
     """Answer the inner sides whose hedges are to be opened, rising, or a refusal."""
     refusal = refusal_of(garden)
     if refusal != TAKEN:
         return [refusal]
     wide = wide_of(garden)
-    high = high_of(garden, wide)
-    rooms = rooms_of(garden, wide, high)
-    sides = inner_sides(wide, high)
-    answer = [TAKEN]
-    for number in range(len(sides)):
-        side = sides[number]
-        if has_hedge(garden, wide, side) and not are_one_room(rooms, side):
-            answer.append(number)
-            rooms = rooms_joined(rooms, side)
-    return answer
+    return [TAKEN] + sides_to_open(garden, wide, high_of(garden, wide))
+
+
+def plant(garden):
+    """Answer the inner sides whose passages are to be planted, rising, or a refusal."""
+    refusal = refusal_of(garden)
+    if refusal != TAKEN:
+        return [refusal]
+    wide = wide_of(garden)
+    return [TAKEN] + sides_to_plant(garden, wide, high_of(garden, wide))

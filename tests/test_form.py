@@ -15,6 +15,8 @@ BUILT_IN = ("len range enumerate zip min max sum abs sorted reversed int str boo
             "isinstance ord repr any all divmod Exception ValueError KeyError IndexError LookupError").split()
 METHODS = ("append clear copy count endswith extend find get index insert items join keys pop remove replace "
            "reverse setdefault split startswith strip update values").split()
+WALKED = "zip enumerate reversed range items keys values".split()
+WALKERS = "list tuple dict sorted sum any all enumerate zip min max".split()
 NAMES_OUT = "register mro elements open input version_info with_traceback add_note".split()
 WORDS_OUT = ("type typing typing_extensions enum Enum IntEnum StrEnum Flag IntFlag Generic Protocol ABC ABCMeta "
              "namedtuple NamedTuple TypedDict TYPE_CHECKING abstractmethod").split()
@@ -22,6 +24,10 @@ WORDS_OUT = ("type typing typing_extensions enum Enum IntEnum StrEnum Flag IntFl
 
 def trees():
     return [(path, ast.parse(path.read_text("ascii"))) for path in FILES]
+
+
+def called(node):
+    return node.func.attr if isinstance(node.func, ast.Attribute) else getattr(node.func, "id", None)
 
 
 class Form(unittest.TestCase):
@@ -67,6 +73,18 @@ class Form(unittest.TestCase):
                     self.assertNotIsInstance(node.value, (float, complex, bytes), place)
                 if isinstance(node, ast.Attribute):
                     self.assertIn(node.attr, METHODS, place)
+
+    def test_walked_at_once(self):
+        for path, tree in trees():
+            walked = []
+            for node in ast.walk(tree):
+                if isinstance(node, (ast.For, ast.comprehension)):
+                    walked.append(node.iter)
+                if isinstance(node, ast.Call) and called(node) in WALKERS:
+                    walked += node.args
+            for node in ast.walk(tree):
+                if isinstance(node, ast.Call) and called(node) in WALKED:
+                    self.assertIn(node, walked, (path.name, node.lineno))
 
     def test_functions(self):
         for path, tree in trees():

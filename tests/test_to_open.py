@@ -1,34 +1,11 @@
 """to_open: the hedges to be opened are rooms less one (H1), and the first of these (H2)."""
 
-import contextlib
-import io
-import itertools
 import random
 import unittest
 
-from drawings import Untouched, all_hedges, as_drawing, draw, level, rooms, side_count, squares_of, upright
+from drawings import all_hedges, as_drawing, draw, level, rooms, side_count, squares_of, upright
 from mazemends.garden import to_open
-
-
-def first_fewest(wide, high, hedges):
-    """Of all choices of rooms less one hedges that leave one room, the first."""
-    fewest = len(rooms(wide, high, hedges)) - 1
-    for choice in itertools.combinations(sorted(hedges), fewest):
-        if len(rooms(wide, high, set(hedges) - set(choice))) == 1:
-            return list(choice)
-    raise AssertionError("no choice leaves one room")
-
-
-def opened_one_by_one(wide, high, hedges):
-    """The document's words taken literally: each hedge in turn, the rooms walked anew each time."""
-    left = set(hedges)
-    opened = []
-    for number in sorted(hedges):
-        one, other = squares_of(number, wide, high)
-        if not any(one in room and other in room for room in rooms(wide, high, left)):
-            opened.append(number)
-            left.remove(number)
-    return opened
+from words import every_garden, first_fewest_opened, gardens_by_chance, opened_one_by_one
 
 
 class Written(unittest.TestCase):
@@ -95,6 +72,12 @@ class Written(unittest.TestCase):
             "+-+-+-+")
         self.assertEqual(to_open(garden), [0, 2, 3])
 
+    def test_a_garden_changed_between_is_read_anew(self):
+        garden = draw(2, 1, [0])
+        self.assertEqual(to_open(garden), [0, 0])
+        garden[8] = 32
+        self.assertEqual(to_open(garden), [0])
+
 
 class Sizes(unittest.TestCase):
     """Each size of a garden, with all hedges and with none."""
@@ -151,80 +134,16 @@ class Promises(unittest.TestCase):
 
     def test_every_small_garden(self):
         for wide, high in ((1, 1), (2, 1), (1, 2), (1, 4), (4, 1), (2, 2), (3, 2), (2, 3)):
-            numbers = range(side_count(wide, high))
-            for chosen in itertools.product((False, True), repeat=len(numbers)):
-                hedges = [number for number in numbers if chosen[number]]
+            for hedges in every_garden(wide, high):
                 answer = to_open(draw(wide, high, hedges))
                 self.hold(wide, high, hedges, answer)
-                self.assertEqual(answer[1:], first_fewest(wide, high, hedges), (wide, high, hedges))
+                self.assertEqual(answer[1:], first_fewest_opened(wide, high, hedges), (wide, high, hedges))
 
     def test_large_gardens(self):
-        chance = random.Random(28)
-        for turn in range(150):
-            wide, high = chance.randint(1, 10), chance.randint(1, 10)
-            part = chance.choice((0.2, 0.5, 0.6, 0.8, 0.95))
-            hedges = [n for n in range(side_count(wide, high)) if chance.random() < part]
+        for wide, high, hedges in gardens_by_chance(random.Random(28), 150):
             answer = to_open(draw(wide, high, hedges))
             self.hold(wide, high, hedges, answer)
             self.assertEqual(answer[1:], opened_one_by_one(wide, high, hedges), (wide, high, hedges))
-
-
-class Interface(unittest.TestCase):
-    """What is given back, what is handed in, and that nothing is kept or printed."""
-
-    gardens = (
-        draw(4, 3, all_hedges(4, 3)),
-        draw(10, 10, range(0, 180, 2)),
-        draw(1, 1, []),
-        [],
-        draw(2, 2, []) + [10],
-        [43] * 1025,
-    )
-
-    def test_kinds(self):
-        for garden in self.gardens:
-            answer = to_open(garden)
-            self.assertIs(type(answer), list)
-            for number in answer:
-                self.assertIs(type(number), int)
-
-    def test_what_is_handed_in_is_not_changed(self):
-        for garden in self.gardens:
-            handed = list(garden)
-            to_open(handed)
-            self.assertEqual(handed, garden)
-
-    def test_what_is_handed_in_is_not_changed_for_a_while(self):
-        for garden in self.gardens:
-            self.assertEqual(to_open(Untouched(garden)), to_open(list(garden)))
-
-    def test_a_second_time_gives_the_same(self):
-        first = [to_open(garden) for garden in self.gardens]
-        second = [to_open(garden) for garden in reversed(self.gardens)]
-        self.assertEqual(first, second[::-1])
-        for garden in self.gardens:
-            self.assertEqual(to_open(garden), to_open(garden))
-
-    def test_a_changed_answer_changes_no_later_one(self):
-        for garden in self.gardens:
-            answer = to_open(garden)
-            before = list(answer)
-            answer.append(7)
-            answer[0] = 99
-            self.assertEqual(to_open(garden), before)
-
-    def test_a_garden_changed_between_is_read_anew(self):
-        garden = draw(2, 1, [0])
-        self.assertEqual(to_open(garden), [0, 0])
-        garden[8] = 32
-        self.assertEqual(to_open(garden), [0])
-
-    def test_nothing_is_printed(self):
-        out, err = io.StringIO(), io.StringIO()
-        with contextlib.redirect_stdout(out), contextlib.redirect_stderr(err):
-            for garden in self.gardens:
-                to_open(garden)
-        self.assertEqual(out.getvalue() + err.getvalue(), "")
 
 
 if __name__ == "__main__":

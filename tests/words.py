@@ -1,0 +1,73 @@
+"""The document's words taken literally, over a garden's size and its hedges: slow, and apart from the program."""
+
+import itertools
+
+from drawings import rooms, side_count, squares_of
+
+
+def are_joined(number, wide, high, hedges):
+    """Whether the two squares of an inner side are of one room, the rooms walked anew."""
+    one, other = squares_of(number, wide, high)
+    return any(one in room and other in room for room in rooms(wide, high, hedges))
+
+
+def passages(wide, high, hedges):
+    return [number for number in range(side_count(wide, high)) if number not in hedges]
+
+
+def rings(wide, high, hedges):
+    """Passages less squares plus rooms."""
+    return len(passages(wide, high, hedges)) - wide * high + len(rooms(wide, high, hedges))
+
+
+def opened_one_by_one(wide, high, hedges):
+    left = set(hedges)
+    opened = []
+    for number in sorted(hedges):
+        if not are_joined(number, wide, high, left):
+            opened.append(number)
+            left.remove(number)
+    return opened
+
+
+def planted_one_by_one(wide, high, hedges):
+    standing = set(hedges)
+    planted = []
+    for number in passages(wide, high, hedges):
+        if are_joined(number, wide, high, standing | {number}):
+            planted.append(number)
+            standing.add(number)
+    return planted
+
+
+def first_fewest_opened(wide, high, hedges):
+    """Of all choices of rooms less one hedges that leave one room, the first."""
+    fewest = len(rooms(wide, high, hedges)) - 1
+    for choice in itertools.combinations(sorted(hedges), fewest):
+        if len(rooms(wide, high, set(hedges) - set(choice))) == 1:
+            return list(choice)
+    raise AssertionError("no choice leaves one room")
+
+
+def first_fewest_planted(wide, high, hedges):
+    """Of all choices of as many passages as there are rings that leave the rooms as they are, the first."""
+    before = rooms(wide, high, hedges)
+    for choice in itertools.combinations(passages(wide, high, hedges), rings(wide, high, hedges)):
+        if rooms(wide, high, set(hedges) | set(choice)) == before:
+            return list(choice)
+    raise AssertionError("no choice leaves the rooms as they are")
+
+
+def every_garden(wide, high):
+    """The hedges of each garden of a size."""
+    numbers = range(side_count(wide, high))
+    for chosen in itertools.product((False, True), repeat=len(numbers)):
+        yield [number for number in numbers if chosen[number]]
+
+
+def gardens_by_chance(chance, count):
+    """Size and hedges of gardens of all sizes, from sparse to crowded, the same each time."""
+    for turn in range(count):
+        wide, high = chance.randint(1, 10), chance.randint(1, 10)
+        part = chance.choice((0.05, 0.2, 0.4, 0.5, 0.6, 0.8, 0.95))
+        yield wide, high, [n for n in range(side_count(wide, high)) if chance.random() < part]
