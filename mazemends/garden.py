@@ -32,11 +32,11 @@ def high_of(drawing, wide):
     return (len(drawing) // line_bytes(wide) - 1) // 2
 
 
-def hedge_or_passage(hedge, at_border):
-    """Give the signs that may stand between two corners: a border has no passages."""
-    if at_border:
-        return (hedge,)
-    return (hedge, BLANK)
+def hedge_in(row):
+    """Give the sign of a hedge in a line of a drawing: level ones stand in the lines with corners."""
+    if row % 2 == 0:
+        return LEVEL_HEDGE
+    return UPRIGHT_HEDGE
 
 
 def signs_allowed(place, wide, high):
@@ -49,9 +49,9 @@ def signs_allowed(place, wide, high):
         return (CORNER,)
     if row % 2 == 1 and column % 2 == 1:
         return (BLANK,)
-    if row % 2 == 0:
-        return hedge_or_passage(LEVEL_HEDGE, row == 0 or row == 2 * high)
-    return hedge_or_passage(UPRIGHT_HEDGE, column == 0 or column == 2 * wide)
+    if row in (0, 2 * high) or column in (0, 2 * wide):
+        return (hedge_in(row),)
+    return (hedge_in(row), BLANK)
 
 
 def is_drawing(drawing):
@@ -161,6 +161,19 @@ def sides_to_plant(drawing, wide, high):
     return list(reversed(numbers))
 
 
+def drawing_mended(drawing, wide, high):
+    """Give the drawing of the garden with the hedges opened and the passages planted, as a new list."""
+    mended = list(drawing)
+    sides = inner_sides(wide, high)
+    # Both are told by the garden as it was handed in, not as it is half mended.
+    for number in sides_to_open(drawing, wide, high):
+        mended[place_of_side(sides[number], wide)] = BLANK
+    for number in sides_to_plant(drawing, wide, high):
+        place = place_of_side(sides[number], wide)
+        mended[place] = hedge_in(place // line_bytes(wide))
+    return mended
+
+
 def to_open(garden):
     """Answer the inner sides whose hedges are to be opened, rising, or a refusal."""
     refusal = refusal_of(garden)
@@ -177,3 +190,12 @@ def plant(garden):
         return [refusal]
     wide = wide_of(garden)
     return [TAKEN] + sides_to_plant(garden, wide, high_of(garden, wide))
+
+
+def done(garden):
+    """Answer the bytes of the drawing of the garden mended, or a refusal."""
+    refusal = refusal_of(garden)
+    if refusal != TAKEN:
+        return [refusal]
+    wide = wide_of(garden)
+    return [TAKEN] + drawing_mended(garden, wide, high_of(garden, wide))

@@ -67,6 +67,13 @@ def inner_places(wide, high):
     return [place for place in range(len(bare)) if bare[place] != full[place]]
 
 
+def places(wide, high):
+    """The place of each inner side in a drawing, by the side's number."""
+    uprights = [(2 * y + 1, 2 * x + 2) for y in range(high) for x in range(wide - 1)]
+    levels = [(2 * y + 2, 2 * x + 1) for y in range(high - 1) for x in range(wide)]
+    return [row * (2 * wide + 2) + column for row, column in uprights + levels]
+
+
 def rooms(wide, high, hedges):
     """The rooms as sets of squares, found by walking from square to square."""
     beside = {(x, y): [] for y in range(high) for x in range(wide)}

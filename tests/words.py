@@ -58,6 +58,49 @@ def first_fewest_planted(wide, high, hedges):
     raise AssertionError("no choice leaves the rooms as they are")
 
 
+def mended_one_by_one(wide, high, hedges):
+    """The hedges of the garden mended."""
+    opened = opened_one_by_one(wide, high, hedges)
+    return (set(hedges) - set(opened)) | set(planted_one_by_one(wide, high, hedges))
+
+
+def is_perfect(wide, high, hedges):
+    """Whether from the first square each other is come to, and each in one way only that comes nowhere twice."""
+    beside = {}
+    for number in passages(wide, high, hedges):
+        one, other = squares_of(number, wide, high)
+        beside.setdefault(one, []).append(other)
+        beside.setdefault(other, []).append(one)
+    before = {(0, 0): None}
+    ahead = [(0, 0)]
+    while ahead:
+        square = ahead.pop()
+        for further in beside.get(square, []):
+            if further == before[square]:
+                continue
+            if further in before:
+                return False
+            before[further] = square
+            ahead.append(further)
+    return len(before) == wide * high
+
+
+def first_fewest_mended(wide, high, hedges):
+    """Of all changes that make the garden perfect the fewest, of these the first by what is opened, then planted."""
+    numbers = range(side_count(wide, high))
+    for count in range(len(numbers) + 1):
+        found = []
+        for choice in itertools.combinations(numbers, count):
+            standing = set(hedges) ^ set(choice)
+            if is_perfect(wide, high, standing):
+                opened = [number for number in choice if number in hedges]
+                planted = [number for number in choice if number not in hedges]
+                found.append((opened, planted, standing))
+        if found:
+            return min(found, key=lambda one: one[:2])[2]
+    raise AssertionError("no change makes it perfect")
+
+
 def every_garden(wide, high):
     """The hedges of each garden of a size."""
     numbers = range(side_count(wide, high))
