@@ -6,6 +6,7 @@ MOST_SQUARES = 10
 TAKEN = 0
 TOO_LONG = -2
 AT_FAULT = -6
+OTHER_SIZE = -9
 
 LINE_END = 10
 BLANK = 32
@@ -77,6 +78,18 @@ def refusal_of(drawing):
         return TOO_LONG
     if not is_drawing(drawing):
         return AT_FAULT
+    return TAKEN
+
+
+def refusal_of_two(drawing, other):
+    """Give the refusal that two drawings call for, or TAKEN; one of either counts ahead of their sizes."""
+    refusals = (refusal_of(drawing), refusal_of(other))
+    for refusal in (TOO_LONG, AT_FAULT):
+        if refusal in refusals:
+            return refusal
+    wide = wide_of(drawing)
+    if wide != wide_of(other) or high_of(drawing, wide) != high_of(other, wide):
+        return OTHER_SIZE
     return TAKEN
 
 
@@ -199,3 +212,17 @@ def done(garden):
         return [refusal]
     wide = wide_of(garden)
     return [TAKEN] + drawing_mended(garden, wide, high_of(garden, wide))
+
+
+def differ(garden, other):
+    """Answer the inner sides at which the two gardens differ, rising, or a refusal."""
+    refusal = refusal_of_two(garden, other)
+    if refusal != TAKEN:
+        return [refusal]
+    wide = wide_of(garden)
+    sides = inner_sides(wide, high_of(garden, wide))
+    answer = [TAKEN]
+    for number in range(len(sides)):
+        if has_hedge(garden, wide, sides[number]) != has_hedge(other, wide, sides[number]):
+            answer.append(number)
+    return answer
