@@ -1,10 +1,11 @@
-"""Gardens of hedges, read from their drawings, and the fewest changes that make them perfect."""
+"""Gardens of hedges, read from their drawings: the fewest changes that make them perfect, and dead ends eased."""
 
 MOST_BYTES = 1024
 MOST_SQUARES = 10
 
 TAKEN = 0
 TOO_LONG = -2
+LONE_SQUARE = -5
 AT_FAULT = -6
 OTHER_SIZE = -9
 
@@ -105,6 +106,20 @@ def inner_sides(wide, high):
     return sides
 
 
+def sides_around(square, wide, high):
+    """Give the inner sides around a square, upper, right, lower, left, each with that square first."""
+    sides = []
+    if square >= wide:
+        sides.append((square, square - wide))
+    if square % wide < wide - 1:
+        sides.append((square, square + 1))
+    if square < wide * (high - 1):
+        sides.append((square, square + wide))
+    if square % wide > 0:
+        sides.append((square, square - 1))
+    return sides
+
+
 def place_of_square(square, wide):
     """Tell where in a drawing the blank of a square stands."""
     row = 2 * (square // wide) + 1
@@ -187,6 +202,28 @@ def drawing_mended(drawing, wide, high):
     return mended
 
 
+def has_lone_square(drawing, wide, high):
+    """Tell whether there is a square without a passage."""
+    for square in range(wide * high):
+        sides = sides_around(square, wide, high)
+        hedged = [side for side in sides if has_hedge(drawing, wide, side)]
+        if len(hedged) == len(sides):
+            return True
+    return False
+
+
+def drawing_eased(drawing, wide, high):
+    """Give the drawing of the garden with a hedge opened at each dead end that has one, as a new list."""
+    drawn = list(drawing)
+    for square in range(wide * high):
+        sides = sides_around(square, wide, high)
+        # Asked of the new list: a hedge opened at a square before may have ended a dead end here.
+        hedged = [side for side in sides if has_hedge(drawn, wide, side)]
+        if len(hedged) > 0 and len(hedged) == len(sides) - 1:
+            drawn[place_of_side(hedged[0], wide)] = BLANK
+    return drawn
+
+
 def to_open(garden):
     """Answer the inner sides whose hedges are to be opened, rising, or a refusal."""
     refusal = refusal_of(garden)
@@ -226,3 +263,15 @@ def differ(garden, other):
         if has_hedge(garden, wide, sides[number]) != has_hedge(other, wide, sides[number]):
             answer.append(number)
     return answer
+
+
+def eased(garden):
+    """Answer the bytes of the drawing of the garden eased, or a refusal."""
+    refusal = refusal_of(garden)
+    if refusal != TAKEN:
+        return [refusal]
+    wide = wide_of(garden)
+    high = high_of(garden, wide)
+    if has_lone_square(garden, wide, high):
+        return [LONE_SQUARE]
+    return [TAKEN] + drawing_eased(garden, wide, high)

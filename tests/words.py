@@ -2,7 +2,7 @@
 
 import itertools
 
-from drawings import rooms, side_count, squares_of
+from drawings import level, rooms, side_count, squares_of, upright
 
 
 def are_joined(number, wide, high, hedges):
@@ -99,6 +99,43 @@ def first_fewest_mended(wide, high, hedges):
         if found:
             return min(found, key=lambda one: one[:2])[2]
     raise AssertionError("no change makes it perfect")
+
+
+def sides_of_square(x, y, wide, high):
+    """The inner sides at the sides 0 to 3 of a square, None where the border stands."""
+    return (
+        level(x, y - 1, wide, high) if y > 0 else None,
+        upright(x, y, wide) if x < wide - 1 else None,
+        level(x, y, wide, high) if y < high - 1 else None,
+        upright(x - 1, y, wide) if x > 0 else None)
+
+
+def squares_with(count, wide, high, hedges):
+    """The squares, rising, that have so many passages: lone ones have none, dead ends one."""
+    found = []
+    for y in range(high):
+        for x in range(wide):
+            inner = [number for number in sides_of_square(x, y, wide, high) if number is not None]
+            if len([number for number in inner if number not in hedges]) == count:
+                found.append((x, y))
+    return found
+
+
+def hedges_within(x, y, wide, high, hedges):
+    """The hedges of a square within the garden, by its sides 0 to 3."""
+    return [number for number in sides_of_square(x, y, wide, high) if number is not None and number in hedges]
+
+
+def eased_one_by_one(wide, high, hedges):
+    """The hedges of the garden eased; there is to be no lone square."""
+    standing = set(hedges)
+    for y in range(high):
+        for x in range(wide):
+            if (x, y) in squares_with(1, wide, high, standing):
+                within = hedges_within(x, y, wide, high, standing)
+                if within:
+                    standing.remove(within[0])
+    return standing
 
 
 def every_garden(wide, high):
